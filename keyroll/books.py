@@ -46,8 +46,8 @@ class Book:
         """Write that the key came to the person (None: not known) at some moment."""
         row = self._key_row(name)
         check_place(row, place)
-        if person is not None and not 0 <= person < self._persons:
-            raise NoOne(f"there is no person {person}")
+        if person is not None:
+            self.check_person(person)
         self._key_rows[name] = row_with(row, place, (person, early, late))
 
     def fit(self, door, place, kind, early, late):
@@ -72,7 +72,7 @@ class Book:
         check_moment(moment)
         found = told(row, moment)
         if None in found:
-            return None, list(range(self._persons))
+            return None, self.everybody()
         persons = sorted([person for person in found if person != NOTHING_YET])
         sure = persons[0] if persons and len(found) == 1 else None
         return sure, persons
@@ -82,6 +82,19 @@ class Book:
         row = self._door_row(door)
         check_moment(moment)
         return sorted(told(row, moment))
+
+    def everybody(self):
+        """Tell all persons."""
+        return list(range(self._persons))
+
+    def cuts(self):
+        """Tell (opens, plain) for each key."""
+        return list(self._cuts)
+
+    def check_person(self, person):
+        """Refuse a person that there isn't."""
+        if not 0 <= person < self._persons:
+            raise NoOne(f"there is no person {person}")
 
     def _key_row(self, name):
         if not 0 <= name < len(self._key_rows):

@@ -68,20 +68,45 @@ def row_with(row, place, entry):
     return longer
 
 
-def standing(row, moment):
-    """Tell the places whose entries are in force at the moment in some world."""
+def spans(row):
+    """Tell (begin, end) for NOTHING_YET, then for each place.
+
+    At the moments from begin on, ahead of end, it is in force in some world.
+    There are none if end is not above begin.
+    """
     # The entries up to a place can be begun as soon as can be while those behind
     # it are begun as late as can be. So the two bounds need no look at each other.
-    starts = [0] + soonest(row)
+    begins = [0] + soonest(row)
     ends = latest(row) + [LAST_MOMENT + 1]
-    return [at - 1 for at in range(len(starts)) if starts[at] <= moment < ends[at]]
+    return list(zip(begins, ends))
+
+
+def standing(row, moment):
+    """Tell the places whose entries are in force at the moment in some world."""
+    return [
+        place
+        for place, (begin, end) in enumerate(spans(row), start=NOTHING_YET)
+        if begin <= moment < end
+    ]
+
+
+def moments_by(row, place):
+    """Tell the moments of a world in which the place is in force for all its span."""
+    return soonest(row)[:place + 1] + latest(row)[place + 1:]
+
+
+def in_force(row, place):
+    """Tell what is there while the place is in force, NOTHING_YET ahead of the first entry."""
+    if place == NOTHING_YET:
+        return NOTHING_YET
+    return row[place][0]
 
 
 def told(row, moment):
     """Tell, each once, what may be at the moment, NOTHING_YET perhaps among it."""
     found = []
     for place in standing(row, moment):
-        what = NOTHING_YET if place == NOTHING_YET else row[place][0]
+        what = in_force(row, place)
         if what not in found:
             found.append(what)
     return found

@@ -3,26 +3,8 @@
 import unittest
 from itertools import product
 
+from every_world import NOTHING, SOMEBODY_ELSE, at_moment, moments_of
 from keyroll.books import Book
-
-SOMEBODY_ELSE = "somebody else"
-NOTHING = "nothing"
-
-
-def moments_of(entries):
-    """All the moments at which the entries of a row can be begun."""
-    spans = [range(early, late + 1) for _, early, late in entries]
-    return [moments for moments in product(*spans) if list(moments) == sorted(moments)]
-
-
-def at_moment(entries, moments, moment):
-    """The one entry in force at the moment, when they are begun at these moments."""
-    found = NOTHING
-    for at, entry in enumerate(entries):
-        behind = moments[at + 1] if at + 1 < len(entries) else 1000
-        if moments[at] <= moment < behind:
-            found = entry[0]
-    return found
 
 
 def seen(entries, moment):
